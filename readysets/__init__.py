@@ -1,0 +1,1 @@
+"""What's ready: sources say what's on, sets watch them and are woken when they turn ready."""
