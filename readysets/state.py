@@ -8,6 +8,7 @@ ALWAYS_WANTED = 12
 
 BY_LEVEL = 0
 BY_EDGE = 1
+ONCE = 2
 
 
 class Member:
@@ -48,6 +49,14 @@ def has_member(house, number, source):
 
 def remove_member(house, number, source):
     house.sets[number] = [member for member in house.sets[number] if member.source != source]
+
+
+def rise(house, source, bits):
+    """Of all members that are this source these bits have risen, too."""
+    for number in house.sets:
+        for member in house.sets[number]:
+            if member.source == source:
+                member.risen = member.risen | bits
 
 
 def sets_within(house, number):

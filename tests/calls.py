@@ -26,6 +26,30 @@ def drop(number, source):
     return [5, number, source]
 
 
+def level(source, bits):
+    return [6, source, bits]
+
+
+def poke(source, bits):
+    return [7, source, bits]
+
+
+def gone(source):
+    return [8, source]
+
+
+def wait(number, most=64):
+    return [9, number, most]
+
+
+def ready(number):
+    return [10, number]
+
+
+def told(number):
+    return [11, number]
+
+
 def of_set(number):
     return 256 + number
 
@@ -54,3 +78,23 @@ def last(*calls):
 def plain(number):
     """An answer that tells nothing and wakes no set."""
     return [number, 0, 0]
+
+
+def waking(number, *sets):
+    """An answer that tells nothing and wakes these sets."""
+    return [number, 0, len(sets), *sets]
+
+
+def telling(number, *numbers):
+    """An answer that tells these numbers and wakes no set."""
+    return [number, len(numbers), *numbers, 0]
+
+
+def shown(*pairs):
+    """The answer to a wait that tells these members, each its data and what it shows."""
+    return telling(len(pairs), *[number for pair in pairs for number in pair])
+
+
+def row(*members):
+    """The answer to told of these members, each its six numbers."""
+    return telling(len(members), *[number for member in members for number in member])
